@@ -1,0 +1,94 @@
+"""Heaps for the tests, and what DOC.md says of them worked out step by step, without the program."""
+
+import random
+
+
+def heap_of(registers, *objects, next=None, kept=(), watches=()):
+    """A heap; next is the least one if it is left out."""
+    least = max([thing[1] for thing in objects], default=-1) + 1
+    return ("heap", least if next is None else next, registers, kept, objects, watches)
+
+
+def random_reference(chance, numbers):
+    return chance.choice(numbers) if numbers and chance.random() < 0.75 else None
+
+
+def random_object(chance, number, numbers):
+    kind = chance.choice(("record", "weak", "table"))
+    if kind == "record":
+        fields = tuple(random_reference(chance, numbers) for _ in range(chance.randrange(4)))
+        return (kind, number, fields)
+    if kind == "weak":
+        return (kind, number, random_reference(chance, numbers))
+    keys = chance.sample(numbers, min(len(numbers), chance.randrange(5)))
+    return (kind, number, tuple((key, chance.choice(numbers)) for key in keys))
+
+
+def random_heap(seed):
+    chance = random.Random(seed)
+    numbers = sorted(chance.sample(range(30), chance.randrange(11)))
+    objects = tuple(random_object(chance, number, numbers) for number in numbers)
+    registers = tuple(random_reference(chance, numbers) for _ in range(chance.randrange(1, 4)))
+    kept = tuple(number for number in numbers if chance.random() < 0.2)
+    marked = chance.choices(numbers, k=chance.randrange(4)) if numbers else []
+    watches = tuple((number, chance.randrange(5)) for number in marked)
+    following = max(numbers, default=-1) + 1 + chance.choice((0, 0, 3))
+    return ("heap", following, registers, kept, objects, watches)
+
+
+def random_set(seed, heap):
+    chance = random.Random(seed)
+    return tuple(thing[1] for thing in heap[4] if chance.random() < 0.4)
+
+
+def all_steps(heap, condemned):
+    """All steps (object, reason) that [c12] lets stand, in the order of [a1], with what they name."""
+    steps = [(held, ("register", i), ()) for i, held in enumerate(heap[2]) if held is not None]
+    for kind, number, inside in heap[4]:
+        if kind == "record":
+            for i, held in enumerate(inside):
+                if held is not None:
+                    steps.append((held, ("field", number, i), (number,)))
+        elif kind == "table":
+            for key, value in inside:
+                steps.append((value, ("entry", number, key), (number, key)))
+        elif inside is not None and inside not in condemned:
+            steps.append((inside, ("deref", number), (number,)))
+    return steps
+
+
+def rounds_slowly(heap, condemned):
+    """The rounds of [a1]: of each object the least over all steps that give it."""
+    rounds = {}
+    changed = True
+    while changed:
+        changed = False
+        for number, reason, names in all_steps(heap, condemned):
+            if any(name not in rounds for name in names):
+                continue
+            depth = 1 + max([rounds[name] for name in names]) if names else 0
+            if depth < rounds.get(number, depth + 1):
+                rounds[number] = depth
+                changed = True
+    return rounds
+
+
+def derive_slowly(heap, condemned, number):
+    """The derivation of [a2]."""
+    rounds = rounds_slowly(heap, condemned)
+    if number not in rounds:
+        return None
+    wanted = {number}
+    chosen = {}
+    while wanted - set(chosen):
+        for asked in wanted - set(chosen):
+            fitting = [
+                (reason, names)
+                for found, reason, names in all_steps(heap, condemned)
+                if found == asked and all(name in rounds and rounds[name] < rounds[asked] for name in names)
+            ]
+            if rounds[asked] == 0:
+                fitting = [row for row in fitting if row[0][0] == "register"]
+            chosen[asked] = fitting[0][0]
+            wanted = wanted | set(fitting[0][1])
+    return tuple((step, chosen[step]) for step in sorted(chosen, key=lambda step: (rounds[step], step)))

@@ -1,0 +1,1 @@
+"""Weakcourt: what a program saw of its collector."""

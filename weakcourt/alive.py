@@ -1,0 +1,14 @@
+"""Which objects a program can get hold of."""
+
+from weakcourt.heaps import objects_of
+from weakcourt.rounds import rounds
+
+
+def obtainable(heap, condemned):
+    """The objects that are obtainable without the condemned ones, rising."""
+    return tuple(sorted(rounds(heap, condemned)))
+
+
+def reachable(heap):
+    """The objects that are obtainable without all objects, rising."""
+    return obtainable(heap, tuple([thing[1] for thing in objects_of(heap)]))
