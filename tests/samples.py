@@ -1,5 +1,6 @@
 """Heaps for the tests, and what DOC.md says of them worked out step by step, without the program."""
 
+import itertools
 import random
 
 
@@ -24,9 +25,10 @@ def random_object(chance, number, numbers):
     return (kind, number, tuple((key, chance.choice(numbers)) for key in keys))
 
 
-def random_heap(seed):
+def random_heap(seed, most=10):
+    """A heap of at most so many objects."""
     chance = random.Random(seed)
-    numbers = sorted(chance.sample(range(30), chance.randrange(11)))
+    numbers = sorted(chance.sample(range(30), chance.randrange(most + 1)))
     objects = tuple(random_object(chance, number, numbers) for number in numbers)
     registers = tuple(random_reference(chance, numbers) for _ in range(chance.randrange(1, 4)))
     kept = tuple(number for number in numbers if chance.random() < 0.2)
@@ -39,6 +41,15 @@ def random_heap(seed):
 def random_set(seed, heap):
     chance = random.Random(seed)
     return tuple(thing[1] for thing in heap[4] if chance.random() < 0.4)
+
+
+def numbers_in(heap):
+    return tuple(thing[1] for thing in heap[4])
+
+
+def subsets(numbers):
+    """All subsets of the rising numbers, as rising tuples."""
+    return [part for size in range(len(numbers) + 1) for part in itertools.combinations(numbers, size)]
 
 
 def all_steps(heap, condemned):
@@ -92,3 +103,76 @@ def derive_slowly(heap, condemned, number):
             chosen[asked] = fitting[0][0]
             wanted = wanted | set(fitting[0][1])
     return tuple((step, chosen[step]) for step in sorted(chosen, key=lambda step: (rounds[step], step)))
+
+
+def is_condemnable_slowly(heap, numbers):
+    """Whether the set is condemnable, by [c8]."""
+    got = rounds_slowly(heap, numbers)
+    return not any(number in heap[3] for number in numbers) and not any(number in got for number in numbers)
+
+
+def all_condemnable(heap):
+    return [part for part in subsets(numbers_in(heap)) if is_condemnable_slowly(heap, part)]
+
+
+def reachable_slowly(heap, left_out=None):
+    """What is reachable by steps of [c12] that have nothing to do with the object that is left out."""
+    steps = [
+        (found, names)
+        for found, _, names in all_steps(heap, numbers_in(heap))
+        if left_out not in (found, *names)
+    ]
+    got = set()
+    size = None
+    while size != len(got):
+        size = len(got)
+        got |= {found for found, names in steps if got.issuperset(names)}
+    return got
+
+
+def marking_slowly(heap):
+    """The marking order of [k4]."""
+    things = {thing[1]: thing for thing in heap[4]}
+    order = []
+    waiting = list(heap[2])
+    scanned = []
+    while True:
+        for number in waiting:
+            if number is not None and number not in order:
+                order.append(number)
+        if len(scanned) == len(order):
+            return tuple(order)
+        now = order[len(scanned)]
+        scanned.append(now)
+        waiting = list(things[now][2]) if things[now][0] == "record" else []
+        for table in scanned:
+            if things[table][0] == "table":
+                for key, value in things[table][2]:
+                    if key in scanned and (table == now or key == now):
+                        waiting.append(value)
+
+
+def numbered_otherwise(heap, seed):
+    """The heap with other numbers for its objects, which stand in another order then."""
+    chance = random.Random(seed)
+    word, _, registers, kept, objects, watches = heap
+    numbers = [thing[1] for thing in objects]
+    others = dict(zip(numbers, chance.sample(range(100), len(numbers))))
+    others[None] = None
+    changed = []
+    for kind, number, inside in objects:
+        if kind == "record":
+            inside = tuple(others[held] for held in inside)
+        elif kind == "weak":
+            inside = others[inside]
+        else:
+            inside = tuple((others[key], others[value]) for key, value in inside)
+        changed.append((kind, others[number], inside))
+    return (
+        word,
+        100 + chance.randrange(5),
+        tuple(others[held] for held in registers),
+        tuple(sorted(others[number] for number in kept)),
+        tuple(sorted(changed, key=lambda thing: thing[1])),
+        tuple((others[number], token) for number, token in watches),
+    )

@@ -1,9 +1,15 @@
 import copy
 import unittest
 
-from tests.samples import random_heap, random_set
+from tests.machine import random_commands
+from tests.samples import numbers_in, random_heap, random_set
 from weakcourt.alive import obtainable, reachable
+from weakcourt.canonical import canonical, marking, same
+from weakcourt.commands import do
+from weakcourt.condemning import along, condemn, greatest, is_condemnable
 from weakcourt.derivations import check_derivation, compile_derivation, derive, with_registers
+from weakcourt.errors import CommandFault
+from weakcourt.retaining import dominators, retained
 from weakcourt.text import format_heap
 
 
@@ -23,6 +29,38 @@ class Unchanged(unittest.TestCase):
                 compile_derivation(heap, steps)
                 self.assertEqual(steps, kept)
             self.assertEqual((heap, condemned), before)
+
+    def test_condemning_retaining_canonical(self):
+        for seed in range(50):
+            heap = random_heap(seed)
+            other = random_heap(seed + 1)
+            candidates = random_set(seed, heap)[::-1]
+            before = copy.deepcopy((heap, other, candidates))
+            gone = greatest(heap, candidates)
+            is_condemnable(heap, candidates)
+            condemn(heap, gone)
+            for number in numbers_in(heap):
+                along(heap, number)
+                retained(heap, number)
+                dominators(heap, number)
+            marking(heap)
+            canonical(heap)
+            same(heap, other)
+            self.assertEqual((heap, other, candidates), before)
+
+    def test_states_and_commands(self):
+        for seed in range(50):
+            heap = random_heap(seed)
+            state = ("state", heap, (4, 4, 2))
+            for command in random_commands(seed, len(heap[2]), 20):
+                before = copy.deepcopy((state, command))
+                behind = state
+                try:
+                    behind = do(state, command)[0]
+                except CommandFault:
+                    pass
+                self.assertEqual((state, command), before)
+                state = behind
 
     def test_wrong_steps_in_lists_are_not_changed(self):
         heap = random_heap(1)

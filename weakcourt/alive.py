@@ -1,6 +1,6 @@
 """Which objects a program can get hold of."""
 
-from weakcourt.heaps import objects_of
+from weakcourt.heaps import numbers_of
 from weakcourt.rounds import rounds
 
 
@@ -11,4 +11,4 @@ def obtainable(heap, condemned):
 
 def reachable(heap):
     """The objects that are obtainable without all objects, rising."""
-    return obtainable(heap, tuple([thing[1] for thing in objects_of(heap)]))
+    return obtainable(heap, numbers_of(heap))
