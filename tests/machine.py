@@ -139,6 +139,9 @@ SHAPES = {
 }
 
 
+LOADING = ("record", "weak", "table", "copy", "clear", "read", "deref", "lookup")
+
+
 def random_command(chance, many):
     """A command for so many registers."""
     word = chance.choice(sorted(SHAPES))

@@ -176,3 +176,66 @@ def numbered_otherwise(heap, seed):
         tuple(sorted(changed, key=lambda thing: thing[1])),
         tuple((others[number], token) for number, token in watches),
     )
+
+
+class Touchy:
+    """What cannot be compared, hashed or tested."""
+
+    def __eq__(self, other):
+        raise RuntimeError("compared")
+
+    def __hash__(self):
+        raise RuntimeError("hashed")
+
+    def __bool__(self):
+        raise RuntimeError("tested")
+
+
+# What is no tuple of anything that the program knows.
+JUNK = (
+    None, True, False, 0, 1, -1, 1.5, "", "heap", b"", [], [()], {}, {1: 2}, set(), frozenset(), range(2), object(),
+    Touchy(), (None,), (True,), (1,), ("",), ("heap",), ((),), (Touchy(),), ((Touchy(),),), len, int,
+)
+
+WRONG_HEAPS = (
+    ("Heap", 0, (None,), (), (), ()),
+    ("heap", 0, (None,), (), ()),
+    ("heap", 0, (None,), (), (), (), ()),
+    ["heap", 0, (None,), (), (), ()],
+    ("heap", None, (None,), (), (), ()),
+    ("heap", -1, (None,), (), (), ()),
+    ("heap", 0, [None], (), (), ()),
+    ("heap", 0, (0,), (), (), ()),
+    ("heap", 1, (False,), (), (("record", 0, ()),), ()),
+    ("heap", 0, (Touchy(),), (), (), ()),
+    ("heap", 0, (None,), (0,), (), ()),
+    ("heap", 2, (None,), (1, 0), (("record", 0, ()), ("record", 1, ())), ()),
+    ("heap", 2, (None,), [0], (("record", 0, ()), ("record", 1, ())), ()),
+    ("heap", 2, (None,), (None,), (("record", 0, ()), ("record", 1, ())), ()),
+    ("heap", 1, (None,), (), (("record", 0, ()), ("record", 1, ())), ()),
+    ("heap", 2, (None,), (), [("record", 0, ())], ()),
+    ("heap", 2, (None,), (), (["record", 0, ()],), ()),
+    ("heap", 2, (None,), (), (("record", 1, ()), ("record", 0, ())), ()),
+    ("heap", 2, (None,), (), (("record", 1, ()), ("record", 1, ())), ()),
+    ("heap", 2, (None,), (), (("array", 0, ()),), ()),
+    ("heap", 2, (None,), (), (("record", 0),), ()),
+    ("heap", 2, (None,), (), (("record", -1, ()),), ()),
+    ("heap", 2, (None,), (), (("record", True, ()),), ()),
+    ("heap", 2, (None,), (), (("record", 0, None),), ()),
+    ("heap", 2, (None,), (), (("record", 0, (1,)),), ()),
+    ("heap", 2, (None,), (), (("weak", 0, 1),), ()),
+    ("heap", 2, (None,), (), (("weak", 0, (0,)),), ()),
+    ("heap", 2, (None,), (), (("table", 0, None),), ()),
+    ("heap", 2, (None,), (), (("table", 0, (0,)),), ()),
+    ("heap", 2, (None,), (), (("table", 0, ((0,),)),), ()),
+    ("heap", 2, (None,), (), (("table", 0, ((0, 1),)),), ()),
+    ("heap", 2, (None,), (), (("table", 0, ((None, 0),)),), ()),
+    ("heap", 2, (None,), (), (("table", 0, ((0, None),)),), ()),
+    ("heap", 2, (None,), (), (("table", 0, ((0, 0), (0, 0))),), ()),
+    ("heap", 2, (None,), (), (("record", 0, ()),), None),
+    ("heap", 2, (None,), (), (("record", 0, ()),), ((1, 0),)),
+    ("heap", 2, (None,), (), (("record", 0, ()),), ((None, 0),)),
+    ("heap", 2, (None,), (), (("record", 0, ()),), ((0, None),)),
+    ("heap", 2, (None,), (), (("record", 0, ()),), ((0, -1),)),
+    ("heap", 2, (None,), (), (("record", 0, ()),), ((0,),)),
+)

@@ -1,6 +1,6 @@
 import unittest
 
-from tests.samples import all_steps, derive_slowly, heap_of, random_heap, random_set
+from tests.samples import Touchy, all_steps, derive_slowly, heap_of, random_heap, random_set
 from weakcourt.alive import obtainable
 from weakcourt.derivations import check_derivation, compile_derivation, derive, with_registers
 
@@ -326,19 +326,6 @@ class Check(unittest.TestCase):
         reasons = [("register", i) for i in range(3)] + [("deref", w) for w in numbers]
         reasons += [(kind, r, i) for kind in ("field", "entry") for r in numbers for i in (0, 1, *numbers[:2])]
         return [(place, number, reason) for place in range(len(steps)) for number in numbers for reason in reasons]
-
-
-class Touchy:
-    """What cannot be compared, hashed or tested."""
-
-    def __eq__(self, other):
-        raise RuntimeError("compared")
-
-    def __hash__(self):
-        raise RuntimeError("hashed")
-
-    def __bool__(self):
-        raise RuntimeError("tested")
 
 
 def load(heap, commands):
